@@ -1,0 +1,1 @@
+"""Groundkeep: ground lent out in blocks."""

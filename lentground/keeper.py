@@ -1,0 +1,42 @@
+"""The object that the calls are made on: a ground with its blocks."""
+
+from lentground.block import place_behind
+from lentground.rows import rows_between
+
+FIRST_SIZE = 64
+FIRST_RULE = 0
+
+
+class Ground:
+    def __init__(self):
+        self.begin(FIRST_SIZE, FIRST_RULE)
+
+    def begin(self, size, rule):
+        """Makes it a new ground, of which nothing is lent."""
+        self.size = size
+        self.rule = rule
+        self.store = [0] * size
+        self.blocks = {}
+        self.depth = 0
+        self.mark = 0
+
+    def blocks_in_order(self):
+        return [self.blocks[address] for address in sorted(self.blocks)]
+
+    def rows(self):
+        return rows_between(self.size, self.blocks_in_order())
+
+    def rows_without(self, left_out):
+        """The rows as if the block at the address left_out weren't there."""
+        others = [block for block in self.blocks_in_order() if block.address != left_out]
+        return rows_between(self.size, others)
+
+    def settle(self, block):
+        """Lets a block lie at its address; the mark goes behind it."""
+        self.blocks[block.address] = block
+        self.mark = place_behind(block)
+
+    def put(self, address, values):
+        """Writes the bytes from the address on."""
+        for i, value in enumerate(values):
+            self.store[address + i] = value
