@@ -36,7 +36,7 @@ class Ground:
         self.blocks[block.address] = block
         self.mark = place_behind(block)
 
-    def put(self, address, values):
+    def put(self, address, new_bytes):
         """Writes the bytes from the address on."""
-        for i, value in enumerate(values):
+        for i, value in enumerate(new_bytes):
             self.store[address + i] = value
