@@ -14,6 +14,8 @@ NONE_THERE = -4
 
 MOST_PLACES = 2048
 ALIGNMENTS = (1, 2, 4, 8, 16, 32, 64, 128, 256)
+GREATEST_DEPTH = 8
+MOST_WALKS = 4
 
 
 def answer_open(ground, numbers):
@@ -64,7 +66,7 @@ def answer_resize(ground, numbers):
     if address is None:
         return [NO_ROOM]
     # Copied ahead of the move: the new place may meet the old one.
-    kept = ground.store[block.address:block.address + min(block.n, n)]
+    kept = ground.bytes_from(block.address, min(block.n, n))
     ground.blocks.pop(block.address)
     ground.settle(Block(address, n, block.alignment, block.group))
     ground.put(address, kept)
@@ -94,10 +96,10 @@ def answer_of(ground, numbers):
 
 
 def answer_next(ground, numbers):
-    for block in ground.blocks_in_order():
-        if block.address >= numbers[0]:
-            return [block.address]
-    return [NONE_THERE]
+    address = ground.address_from(numbers[0])
+    if address is None:
+        return [NONE_THERE]
+    return [address]
 
 
 def answer_most(ground, numbers):
@@ -122,6 +124,102 @@ def answer_rows(ground, numbers):
     return answer
 
 
+def answer_enter(ground, numbers):
+    if ground.depth == GREATEST_DEPTH:
+        return [NO_ROOM]
+    ground.depth = ground.depth + 1
+    return [ground.depth]
+
+
+def answer_leave(ground, numbers):
+    if ground.depth == 0:
+        return [NONE_THERE]
+    leaving = ground.innermost_blocks()
+    for block in leaving:
+        ground.blocks.pop(block.address)
+    ground.depth = ground.depth - 1
+    return [len(leaving)]
+
+
+def answer_keep(ground, numbers):
+    block = ground.blocks.get(numbers[0])
+    if block is None:
+        return [NO_BLOCK]
+    if block.group == 0:
+        return [NONE_THERE]
+    block.group = block.group - 1
+    return [block.group]
+
+
+def answer_counts(ground, numbers):
+    blocks = ground.blocks_in_order()
+    lent = sum([block.n for block in blocks])
+    return [len(blocks), lent, ground.depth, len(ground.innermost_blocks()), ground.mark]
+
+
+def has_bytes(block, first, how_many):
+    """Whether so many bytes from the one with the number first on are all the block's."""
+    # No bytes at all may begin at the block's end too, but not beyond it.
+    return first + how_many <= block.n
+
+
+def answer_write(ground, numbers):
+    block = ground.blocks.get(numbers[0])
+    first = numbers[1]
+    # Behind these stands how many bytes there are, then the bytes.
+    new_bytes = numbers[3:]
+    if block is None:
+        return [NO_BLOCK]
+    if not has_bytes(block, first, len(new_bytes)):
+        return [WRONG_NUMBER]
+    ground.put(block.address + first, new_bytes)
+    return [0]
+
+
+def answer_read(ground, numbers):
+    block = ground.blocks.get(numbers[0])
+    first = numbers[1]
+    how_many = numbers[2]
+    if block is None:
+        return [NO_BLOCK]
+    if not has_bytes(block, first, how_many):
+        return [WRONG_NUMBER]
+    return [how_many] + ground.bytes_from(block.address + first, how_many)
+
+
+def answer_pack(ground, numbers):
+    ground.pack()
+    return [len(ground.blocks)] + sorted(ground.blocks)
+
+
+def answer_walk(ground, numbers):
+    for walk in range(MOST_WALKS):
+        if walk not in ground.walks:
+            ground.walks[walk] = numbers[0]
+            return [walk]
+    return [NO_ROOM]
+
+
+def answer_step(ground, numbers):
+    walk = numbers[0]
+    if walk not in ground.walks:
+        return [WRONG_NUMBER]
+    address = ground.address_from(ground.walks[walk])
+    if address is None:
+        ground.walks.pop(walk)
+        return [NONE_THERE]
+    ground.walks[walk] = address + 1
+    return [address]
+
+
+def answer_blocks(ground, numbers):
+    blocks = ground.blocks_in_order()
+    answer = [len(blocks)]
+    for block in blocks:
+        answer.extend([block.address, block.n, block.alignment, block.group])
+    return answer
+
+
 CALLS = {
     1: answer_open,
     2: answer_take,
@@ -133,6 +231,16 @@ CALLS = {
     8: answer_next,
     9: answer_most,
     10: answer_rows,
+    11: answer_enter,
+    12: answer_leave,
+    13: answer_keep,
+    14: answer_counts,
+    15: answer_write,
+    16: answer_read,
+    17: answer_pack,
+    18: answer_walk,
+    19: answer_step,
+    20: answer_blocks,
 }
 
 

@@ -1,6 +1,10 @@
 """What the tests share: calls by name, and a second reckoning of their answers, place by place."""
 
+import copy
+
+from lentground.calls import answer_call
 from lentground.ground import answers
+from lentground.keeper import Ground
 
 LARGEST = 18446744073709551615
 ALL_ALIGNMENTS = (1, 2, 4, 8, 16, 32, 64, 128, 256)
@@ -46,6 +50,46 @@ def rows():
     return [10]
 
 
+def enter():
+    return [11]
+
+
+def leave():
+    return [12]
+
+
+def keep(b):
+    return [13, b]
+
+
+def counts():
+    return [14]
+
+
+def write(b, i, new_bytes):
+    return [15, b, i, len(new_bytes), *new_bytes]
+
+
+def read(b, i, k):
+    return [16, b, i, k]
+
+
+def pack():
+    return [17]
+
+
+def walk(p=0):
+    return [18, p]
+
+
+def step(w=0):
+    return [19, w]
+
+
+def blocks():
+    return [20]
+
+
 def joined(calls):
     return [number for call in calls for number in call]
 
@@ -68,6 +112,26 @@ def last(*calls):
     return ask(*calls)[-1]
 
 
+def call_on(ground, call):
+    return answer_call(ground, call[0], call[1:])
+
+
+def ground_with(*calls):
+    """A ground behind the calls, each of its bytes another number than its neighbours'."""
+    ground = Ground()
+    for call in calls:
+        call_on(ground, call)
+    ground.store = [1 + place % 250 for place in range(ground.size)]
+    return ground
+
+
+def whole(ground):
+    """All that a ground holds, as values of its own."""
+    held = copy.deepcopy(vars(ground))
+    held["blocks"] = {address: vars(block) for address, block in held["blocks"].items()}
+    return held
+
+
 class SlowGround:
     """The document's words taken place by place, with no thought of speed."""
 
@@ -77,6 +141,8 @@ class SlowGround:
         self.owner = [None] * how_many
         self.blocks = {}
         self.mark = 0
+        self.depth = 0
+        self.walks = [None] * 4
 
     def row_list(self):
         found = []
@@ -119,10 +185,15 @@ class SlowGround:
         for p in range(b, b + max(n, 1)):
             self.owner[p] = owner
 
-    def lie(self, b, n, a):
-        self.blocks[b] = (n, a)
+    def lie(self, b, n, a, group):
+        self.blocks[b] = (n, a, group)
         self.set_owner(b, n, b)
-        self.mark = b + max(n, 1)
+
+    def begin(self, how_many, rule):
+        if not 1 <= how_many <= 2048 or rule > 4:
+            return [-1]
+        self.__init__(how_many, rule)
+        return [0]
 
     def take(self, n, a):
         if a not in ALL_ALIGNMENTS:
@@ -130,7 +201,8 @@ class SlowGround:
         b = self.place(n, a)
         if b is None:
             return [-3]
-        self.lie(b, n, a)
+        self.lie(b, n, a, self.depth)
+        self.mark = b + max(n, 1)
         return [b]
 
     def zero(self, n, a):
@@ -154,45 +226,127 @@ class SlowGround:
             return False
         return all(owner is None for owner in self.owner[b + max(had, 1):b + max(n, 1)])
 
+    def move(self, b, new, n):
+        """The block at b is taken off there and laid at new, with n bytes."""
+        had, a, group = self.blocks[b]
+        before = list(self.bytes)
+        self.give(b)
+        self.lie(new, n, a, group)
+        for i in range(min(had, n)):
+            self.bytes[new + i] = before[b + i]
+
     def resize(self, b, n):
         if b not in self.blocks:
             return [-2]
-        had, a = self.blocks[b]
-        stays = self.stays(b, n)
-        self.give(b)
-        new = b if stays else self.place(n, a)
+        had, a, group = self.blocks[b]
+        new = b
+        if not self.stays(b, n):
+            self.give(b)
+            new = self.place(n, a)
+            self.lie(b, had, a, group)
         if new is None:
-            self.blocks[b] = (had, a)
-            self.set_owner(b, had, b)
             return [-3]
-        before = list(self.bytes)
-        self.lie(new, n, a)
-        for i in range(min(had, n)):
-            self.bytes[new + i] = before[b + i]
+        self.move(b, new, n)
+        self.mark = new + max(n, 1)
         return [new]
+
+    def size(self, b):
+        return list(self.blocks.get(b, [-2]))
+
+    def of(self, p):
+        owner = self.owner[p] if p < len(self.owner) else None
+        return [-4 if owner is None else owner]
+
+    def next(self, p):
+        return [min((b for b in self.blocks if b >= p), default=-4)]
 
     def most(self, a):
         if a not in ALL_ALIGNMENTS:
             return [-1]
         return [max((n for n in range(len(self.owner) + 1) if self.fitting(n, a)), default=-3)]
 
+    def rows(self):
+        return [len(self.row_list())] + joined(self.row_list())
+
+    def enter(self):
+        if self.depth == 8:
+            return [-3]
+        self.depth += 1
+        return [self.depth]
+
+    def innermost(self):
+        return [b for b in self.blocks if self.blocks[b][2] == self.depth]
+
+    def leave(self):
+        if self.depth == 0:
+            return [-4]
+        leaving = self.innermost()
+        for b in leaving:
+            self.give(b)
+        self.depth -= 1
+        return [len(leaving)]
+
+    def keep(self, b):
+        if b not in self.blocks:
+            return [-2]
+        n, a, group = self.blocks[b]
+        if group == 0:
+            return [-4]
+        self.blocks[b] = (n, a, group - 1)
+        return [group - 1]
+
+    def counts(self):
+        lent = sum(n for n, a, group in self.blocks.values())
+        return [len(self.blocks), lent, self.depth, len(self.innermost()), self.mark]
+
+    def write(self, b, i, how_many, *new_bytes):
+        if b not in self.blocks:
+            return [-2]
+        if how_many > self.blocks[b][0] - i:
+            return [-1]
+        for j, value in enumerate(new_bytes):
+            self.bytes[b + i + j] = value
+        return [0]
+
+    def read(self, b, i, k):
+        if b not in self.blocks:
+            return [-2]
+        if k > self.blocks[b][0] - i:
+            return [-1]
+        return [k] + [self.bytes[b + i + j] for j in range(k)]
+
+    def pack(self):
+        answer = [len(self.blocks)]
+        behind = 0
+        for b in sorted(self.blocks):
+            n, a, group = self.blocks[b]
+            new = behind
+            while new % a != 0:
+                new += 1
+            self.move(b, new, n)
+            answer.append(new)
+            behind = new + max(n, 1)
+        return answer
+
+    def walk(self, p):
+        if None not in self.walks:
+            return [-3]
+        w = self.walks.index(None)
+        self.walks[w] = p
+        return [w]
+
+    def step(self, w):
+        if w >= 4 or self.walks[w] is None:
+            return [-1]
+        answer = self.next(self.walks[w])
+        self.walks[w] = None if answer == [-4] else answer[0] + 1
+        return answer
+
+    def block_list(self):
+        return [len(self.blocks)] + joined([b, *self.blocks[b]] for b in sorted(self.blocks))
+
     def answer(self, call):
-        number, arguments = call[0], call[1:]
-        if number == 1:
-            if not 1 <= arguments[0] <= 2048 or arguments[1] > 4:
-                return [-1]
-            self.__init__(*arguments)
-            return [0]
-        if number == 6:
-            b = arguments[0]
-            return [*self.blocks[b], 0] if b in self.blocks else [-2]
-        if number == 7:
-            p = arguments[0]
-            owner = self.owner[p] if p < len(self.owner) else None
-            return [-4 if owner is None else owner]
-        if number == 8:
-            return [min((b for b in self.blocks if b >= arguments[0]), default=-4)]
-        if number == 10:
-            return [len(self.row_list())] + joined(self.row_list())
-        methods = {2: self.take, 3: self.zero, 4: self.resize, 5: self.give, 9: self.most}
-        return methods[number](*arguments)
+        methods = (self.begin, self.take, self.zero, self.resize, self.give, self.size, self.of, self.next, self.most,
+                   self.rows, self.enter, self.leave, self.keep, self.counts, self.write, self.read, self.pack,
+                   self.walk, self.step, self.block_list)
+        return methods[call[0] - 1](*call[1:])

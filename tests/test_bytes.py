@@ -1,31 +1,11 @@
-"""The ground's bytes: seen on the object itself, since no call of the first ten tells them."""
+"""The ground's bytes, those in no block too: seen on the object itself, since read tells a block's alone."""
 
 import unittest
 
-from lentground.calls import answer_call
 from lentground.keeper import Ground
 
-from helper import begin, give, most, next_from, of, resize, rows, size, take, zero
-
-
-def ground_with(*calls):
-    """A ground behind the calls, each of its bytes another number than its neighbours'."""
-    ground = Ground()
-    for call in calls:
-        answer_call(ground, call[0], call[1:])
-    ground.store = [1 + place % 250 for place in range(ground.size)]
-    return ground
-
-
-def call_on(ground, call):
-    return answer_call(ground, call[0], call[1:])
-
-
-def whole(ground):
-    """All that a ground holds, as values of its own."""
-    blocks = [(key, vars(block).copy()) for key, block in sorted(ground.blocks.items())]
-    others = {name: value for name, value in vars(ground).items() if name not in ("blocks", "store")}
-    return others, list(ground.store), blocks
+from helper import (begin, call_on, enter, give, ground_with, keep, leave, next_from, pack, resize, size, take, write,
+                    zero)
 
 
 class Bytes(unittest.TestCase):
@@ -110,33 +90,44 @@ class Bytes(unittest.TestCase):
         self.assertEqual(ground.store, expected)
 
 
-class Refusals(unittest.TestCase):
-    LINE = (begin(40, 4), take(4), take(0), take(8, 8), take(6), give(4), resize(0, 5))
+    def test_write_changes_its_bytes_alone(self):
+        for i, new_bytes in ((0, [0]), (0, [255, 0, 255, 0, 255]), (2, [0, 255]), (4, [0]), (5, []), (0, [])):
+            ground = ground_with(begin(30), take(3), take(5), take(4))
+            expected = list(ground.store)
+            self.assertEqual(call_on(ground, write(3, i, new_bytes)), [0])
+            expected[3 + i:3 + i + len(new_bytes)] = new_bytes
+            self.assertEqual(ground.store, expected)
 
-    def test_refusals_leave_the_whole_object_as_it_was(self):
-        refused = ((begin(0), -1), (begin(2049), -1), (begin(9, 5), -1), (take(1, 3), -1), (take(41), -3),
-                   (zero(1, 0), -1), (zero(41), -3), (zero(2 ** 64 - 1), -3), (resize(1, 2), -2),
-                   (resize(8, 41), -3), (resize(0, 2 ** 64 - 1), -3), (give(4), -2), (size(9), -2), (of(5), -4),
-                   (next_from(17), -4), (most(12), -1))
-        for call, number in refused:
-            ground = ground_with(*self.LINE)
-            before = whole(ground)
-            self.assertEqual(call_on(ground, call), [number], call)
-            self.assertEqual(whole(ground), before, call)
-
-    def test_a_full_ground_is_left_as_it_was(self):
-        for call in (take(0), zero(0), most(), most(256), resize(0, 41)):
-            ground = ground_with(begin(40), take(40))
-            before = whole(ground)
-            self.assertEqual(call_on(ground, call), [-3])
-            self.assertEqual(whole(ground), before)
-
-    def test_what_only_asks_changes_nothing(self):
-        for call in (size(0), size(8), of(3), next_from(3), most(), most(8), rows()):
-            ground = ground_with(*self.LINE)
-            before = whole(ground)
+    def test_leave_and_keep_change_no_byte(self):
+        ground = ground_with(begin(30), take(3), enter(), take(5), take(4), take(2))
+        before = list(ground.store)
+        for call in (keep(3), leave(), enter(), leave()):
             self.assertGreaterEqual(call_on(ground, call)[0], 0)
-            self.assertEqual(whole(ground), before)
+            self.assertEqual(ground.store, before)
+
+    def test_pack_changes_no_byte_of_another_place(self):
+        ground = ground_with(begin(30), take(3), take(5), take(4), take(2), give(0), give(8))
+        expected = list(ground.store)
+        self.assertEqual(call_on(ground, pack()), [2, 0, 5])
+        expected[0:5] = expected[3:8]
+        expected[5:7] = expected[12:14]
+        self.assertEqual(ground.store, expected)
+
+    def test_pack_down_by_one_place(self):
+        ground = ground_with(begin(30), take(1), take(20), take(0), take(5), give(0))
+        expected = list(ground.store)
+        self.assertEqual(call_on(ground, pack()), [3, 0, 20, 21])
+        expected[0:20] = expected[1:21]
+        expected[21:26] = expected[22:27]
+        self.assertEqual(ground.store, expected)
+
+    def test_pack_of_blocks_of_no_bytes_changes_none(self):
+        ground = ground_with(begin(30), take(3), take(0), take(0, 8), give(0))
+        before = list(ground.store)
+        self.assertEqual(call_on(ground, pack()), [2, 0, 8])
+        self.assertEqual(ground.store, before)
+        self.assertEqual(call_on(ground, pack()), [2, 0, 8])
+        self.assertEqual(ground.store, before)
 
 
 class MarkAndGroup(unittest.TestCase):
@@ -156,19 +147,13 @@ class MarkAndGroup(unittest.TestCase):
             self.assertEqual(ground.mark, before)
 
     def test_a_block_is_of_the_innermost_group_and_resize_keeps_it(self):
-        ground = ground_with(begin(40))
-        self.assertEqual(ground.depth, 0)
-        call_on(ground, take(4))
-        ground.depth = 2
-        call_on(ground, take(4))
+        ground = ground_with(begin(40), take(4), enter(), enter(), take(4))
         self.assertEqual(call_on(ground, size(4)), [4, 1, 2])
         self.assertEqual(call_on(ground, resize(0, 9)), [8])
         self.assertEqual(call_on(ground, size(8)), [9, 1, 0])
-        ground.depth = 1
+        self.assertEqual(call_on(ground, keep(4)), [1])
         self.assertEqual(call_on(ground, resize(4, 2)), [4])
-        self.assertEqual(call_on(ground, size(4)), [2, 1, 2])
-        call_on(ground, begin(40))
-        self.assertEqual(ground.depth, 0)
+        self.assertEqual(call_on(ground, size(4)), [2, 1, 1])
 
 
 if __name__ == "__main__":
